@@ -194,6 +194,25 @@ func wantParty(t *testing.T, what string, p impl.Party, ok bool, want string) {
 	}
 }
 
+// changedTexts returns all texts that one byte more, one byte less or another byte makes of right ones, which themselves may be among them.
+func changedTexts(right ...string) []string {
+	var changed []string
+	for _, s := range right {
+		for i := range len(s) + 1 {
+			for c := range 256 {
+				changed = append(changed, s[:i]+string([]byte{byte(c)})+s[i:])
+				if i < len(s) {
+					changed = append(changed, s[:i]+string([]byte{byte(c)})+s[i+1:])
+				}
+			}
+			if i < len(s) {
+				changed = append(changed, s[:i]+s[i+1:])
+			}
+		}
+	}
+	return changed
+}
+
 // grown returns a deep copy of a value, in which each slice has room behind its length, full of copies of what lies there.
 func grown(v reflect.Value, behind func(reflect.Type) reflect.Value) reflect.Value {
 	c := reflect.New(v.Type()).Elem()

@@ -475,20 +475,10 @@ func TestParseParty(t *testing.T) {
 
 // TestParsePartyOfChangedTexts changes one byte of right texts: what is parsed still is another text of a party, and no other.
 func TestParsePartyOfChangedTexts(t *testing.T) {
-	for _, right := range []string{"0:", "2:0-1", "4:0-1,1-2,2-3", "12:0-10,9-11,10-11"} {
-		for i := 0; i <= len(right); i++ {
-			for c := 0; c < 256; c++ {
-				changed := []string{right[:i] + string([]byte{byte(c)}) + right[i:]}
-				if i < len(right) {
-					changed = append(changed, right[:i]+string([]byte{byte(c)})+right[i+1:], right[:i]+right[i+1:])
-				}
-				for _, s := range changed {
-					p, ok := impl.ParseParty(s)
-					if text, fine := impl.PartyText(p); ok && (!fine || text != s) || !ok && !isZeroParty(p) {
-						t.Errorf("ParseParty(%q): %v %v", s, p, ok)
-					}
-				}
-			}
+	for _, s := range changedTexts("0:", "2:0-1", "4:0-1,1-2,2-3", "12:0-10,9-11,10-11") {
+		p, ok := impl.ParseParty(s)
+		if text, fine := impl.PartyText(p); ok && (!fine || text != s) || !ok && !isZeroParty(p) {
+			t.Errorf("ParseParty(%q): %v %v", s, p, ok)
 		}
 	}
 }
